@@ -1063,8 +1063,8 @@ func deepLogs(logs [][]impl.Entry) [][]impl.Entry {
 
 func sameLogs(a, b [][]impl.Entry) bool { return slices.EqualFunc(a, b, sameLog) }
 
-// checkLogMemory checks that no function changes its arguments, or gives out their memory or that of another result.
-func checkLogMemory(t *testing.T, list, puts []impl.Entry) {
+// checkLogMemory checks that none of the functions that make some results changes its arguments, or gives out their memory or that of another result.
+func checkLogMemory(t *testing.T, list, puts []impl.Entry, results func(list, puts []impl.Entry) [][]impl.Entry) {
 	t.Helper()
 	given, whole, rows := roomyLog(list)
 	entries, _, entryRows := roomyLog(puts)
@@ -1075,7 +1075,7 @@ func checkLogMemory(t *testing.T, list, puts []impl.Entry) {
 		// What entries depend on must not even have been moved, or lost capacity.
 		return sameLogs(arguments, before) && sameRows(rows, rowsBefore) && slices.Equal(roomsOf(reflect.ValueOf(arguments)), roomsBefore)
 	}
-	first, second := entryResults(given, entries), entryResults(given, entries)
+	first, second := results(given, entries), results(given, entries)
 	want := deepLogs(second)
 	if !unchanged() || sharing(whole, entries, first, second) || !sameLogs(first, second) {
 		t.Fatalf("a function of %v changes or shares what it is given", list)
@@ -1109,7 +1109,7 @@ func putsFor(list []impl.Entry) []impl.Entry {
 func TestLogMemory(t *testing.T) {
 	lists := append(listsOfLogs(), logOf("b1n a1n"), logOf("a1n-a b1n"), logOf("a0n-b b1n"), logOf("a1n-cb b1n c1n"), logOf("a99p1-b b1p1-a"), alike(validIds()[:13], none(), 1))
 	for _, list := range lists {
-		checkLogMemory(t, list, putsFor(list))
+		checkLogMemory(t, list, putsFor(list), entryResults)
 	}
 }
 
@@ -1202,6 +1202,6 @@ func FuzzEntries(f *testing.F) {
 				checkAttrsWords(t, list, e.Id, e.What)
 			}
 		}
-		checkLogMemory(t, list, putsFor(list))
+		checkLogMemory(t, list, putsFor(list), entryResults)
 	})
 }
